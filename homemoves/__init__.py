@@ -1,0 +1,1 @@
+"""Homes of rows in a tree of versions: see homemoves/keeper.py for the way in."""
