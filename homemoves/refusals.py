@@ -39,3 +39,8 @@ class NoPlaceForRow(Refusal):
 class TooManyUses(Refusal):
     def __init__(self):
         Refusal.__init__(self, -7)
+
+
+class NotEnoughRoom(Refusal):
+    def __init__(self):
+        Refusal.__init__(self, -8)

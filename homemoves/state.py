@@ -1,7 +1,7 @@
 """What one list of calls works on: a tree or none, and rows under their numbers."""
 
 from homemoves.limits import MOST_ROWS, MOST_USES
-from homemoves.refusals import NoPlaceForRow, NoSuchRow, NoSuchVersion, NoTree, TooManyUses
+from homemoves.refusals import NoPlaceForRow, NoSuchRow, NoSuchVersion, NotEnoughRoom, NoTree, TooManyUses
 from homemoves.row import Row
 from homemoves.tree import Tree
 
@@ -39,5 +39,15 @@ class State:
         if len(row.uses) + len(versions) > MOST_USES:
             raise TooManyUses()
 
+    def need_room_for_rows(self, limits):
+        if sum(limits) < len(self.rows):
+            raise NotEnoughRoom()
+
+    def rows_in_order(self):
+        return [self.rows[number] for number in sorted(self.rows)]
+
     def add_row(self, number, version):
         self.rows[number] = Row(self.tree, version)
+
+    def remove_row(self, number):
+        self.rows.pop(number)

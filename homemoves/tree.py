@@ -32,6 +32,10 @@ class Tree:
     def distance(self, version, other):
         return self.distances[version][other]
 
+    def neighbours(self, version):
+        others = [other for other in range(self.version_count) if other != version]
+        return [other for other in others if self.parents[other] == version or self.parents[version] == other]
+
     def path(self, version, other):
         front = [version]
         back = [other]

@@ -2,19 +2,8 @@
 
 import unittest
 
-from helper import (ADD, BEST, EXAMPLE, FACTORS, HUGE, MIXED, ROW, SCHEDULE_COST, SHAPES, SMALL_SHAPES, TREE, USE, Model,
-                    last, random_shape, random_uses, run)
-
-
-def used_row(factor, shape, first_home, uses):
-    return [(TREE, factor, shape[0], shape[1]), (ADD, 4, first_home), (USE, 4, uses)]
-
-
-def used_model(factor, shape, first_home, uses):
-    model = Model(factor, shape, first_home)
-    for version in uses:
-        model.use(version)
-    return model
+from helper import (ADD, BEST, EXAMPLE, FACTORS, HUGE, MIXED, ROW, SCHEDULE_COST, SHAPES, SMALL_SHAPES, TREE, Model,
+                    last, random_shape, random_uses, run, used_model, used_row)
 
 
 class ScheduleCostTest(unittest.TestCase):

@@ -5,16 +5,6 @@ import unittest
 from helper import ADD, DISTANCE, HUGE, LONG_CHAIN, ONE, ROW, SHAPES, TREE, Model, last, random_shape, run
 
 
-def climb(model, version, other):
-    """The way from version to other: up to the last common one of both ways to version 0, and down again."""
-    up, down = [[end] for end in (version, other)]
-    for way in (up, down):
-        while way[-1] != 0:
-            way.append(model.parents[way[-1] - 1])
-    meeting = max(set(up) & set(down))
-    return up[:up.index(meeting)] + [meeting] + down[:down.index(meeting)][::-1]
-
-
 class TreeTest(unittest.TestCase):
     def test_tells_the_number_of_versions(self):
         for parents, lengths in SHAPES:
@@ -61,7 +51,7 @@ class DistanceTest(unittest.TestCase):
             calls = [(DISTANCE, version, other) for other in range(model.count)]
             told = run((TREE, 5, shape[0], shape[1]), *calls)[1:]
             for other, given in enumerate(told):
-                way = climb(model, version, other)
+                way = model.way(version, other)
                 self.assertEqual(given, [0, model.distance(version, other), len(way)] + way, (shape, version, other))
 
     def test_all_pairs_of_the_shapes(self):
